@@ -9,6 +9,7 @@ import (
 	"testing"
 
 	"revetment/path"
+	"revetment/sample"
 )
 
 const (
@@ -17,21 +18,6 @@ const (
 )
 
 func repeat(s string, n int) string { return strings.Repeat(s, n) }
-
-// texts are all texts of up to most of the letters.
-func texts(letters string, most int) []string {
-	all := []string{""}
-	for from := 0; most > 0; most-- {
-		last := all[from:]
-		from = len(all)
-		for _, s := range last {
-			for _, c := range []byte(letters) {
-				all = append(all, s+string([]byte{c}))
-			}
-		}
-	}
-	return all
-}
 
 // drawn is a name of few different parts, as these meet more often.
 func drawn(r *rand.Rand) string {
@@ -651,10 +637,10 @@ func checkNames(t *testing.T, a, b string) {
 }
 
 func TestAllShortNames(t *testing.T) {
-	for _, name := range texts("ab./", 7) {
+	for _, name := range sample.Texts("ab./", 7) {
 		checkName(t, name)
 	}
-	short := texts("a./", 5)
+	short := sample.Texts("a./", 5)
 	for _, a := range short {
 		for _, b := range short {
 			checkNames(t, a, b)
