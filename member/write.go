@@ -45,8 +45,11 @@ func Write(dialect int, e api.Entry) (string, error) {
 	return writeOld(dialect, e)
 }
 
-// written returns a header with a name and a link, and data behind it.
-func written(dialect int, r head.Raw, name, link, data string) (string, error) {
+// Blocks returns the header of r with a name and a link, and data behind it,
+// filled.
+// Errors: ErrRange for a name that the dialect cannot represent; those of
+// head.Write.
+func Blocks(dialect int, r head.Raw, name, link, data string) (string, error) {
 	r, ok := r.Named(dialect, name)
 	if !ok {
 		return "", api.ErrRange
@@ -88,7 +91,7 @@ func writeOld(dialect int, e api.Entry) (string, error) {
 			r.Kind = api.File // the slash behind the name tells it from one
 		}
 	}
-	return written(dialect, r, storedName(e), e.Link, e.Data)
+	return Blocks(dialect, r, storedName(e), e.Link, e.Data)
 }
 
 func writeGnu(e api.Entry) (string, error) {
@@ -102,7 +105,7 @@ func writeGnu(e api.Entry) (string, error) {
 		if len(text) <= size {
 			return text, nil
 		}
-		s, err := written(api.Gnu, head.Raw{Kind: kind, Size: len(text) + 1}, longName, "", text+"\x00")
+		s, err := Blocks(api.Gnu, head.Raw{Kind: kind, Size: len(text) + 1}, longName, "", text+"\x00")
 		ahead.WriteString(s)
 		return text[:size], err
 	}
@@ -118,7 +121,7 @@ func writeGnu(e api.Entry) (string, error) {
 	if Sparse(e) {
 		r.Kind = api.Holes
 	}
-	s, err := written(api.Gnu, r, name, link, e.Data)
+	s, err := Blocks(api.Gnu, r, name, link, e.Data)
 	if err == nil && Sparse(e) {
 		s, err = withPieces(s, e)
 	}
@@ -173,7 +176,7 @@ func writePax(e api.Entry) (string, error) {
 	if err != nil {
 		return "", err
 	}
-	s, err := written(api.Pax, r, name, link, data)
+	s, err := Blocks(api.Pax, r, name, link, data)
 	if err != nil {
 		return "", err
 	}
@@ -189,5 +192,5 @@ func writeRecords(records []api.Pair) (string, error) {
 	if err != nil {
 		return "", api.ErrRange
 	}
-	return written(api.Pax, head.Raw{Kind: api.Ext, Size: len(text)}, recordsName, "", text)
+	return Blocks(api.Pax, head.Raw{Kind: api.Ext, Size: len(text)}, recordsName, "", text)
 }

@@ -587,6 +587,33 @@ func TestWrittenForOthers(t *testing.T) {
 	}
 }
 
+func TestBlocks(t *testing.T) {
+	long := strings.Repeat("n", 101)
+	for _, c := range []struct {
+		dialect          int
+		r                head.Raw
+		name, link, data string
+		want             string
+		err              api.Errno
+	}{
+		{api.Pax, head.Raw{Kind: 'g', Size: 4}, "a", "", "data", header(api.Pax, "g", "a", fields{124: oct(4)}) + filled("data"), api.OK},
+		{api.V7, head.Raw{Kind: '2', Name: "x", Link: "x"}, "a", "b", "", header(api.V7, "2", "a", fields{157: "b"}), api.OK},
+		{api.Ustar, head.Raw{Kind: '0'}, "f/" + long[1:], "", "", header(api.Ustar, "0", long[1:], fields{345: "f"}), api.OK},
+		{api.Gnu, head.Raw{Kind: '0'}, "a", "", strings.Repeat("d", 513), header(api.Gnu, "0", "a") + filled(strings.Repeat("d", 513)), api.OK},
+		{api.Gnu, head.Raw{Kind: '0'}, long, "", "data", "", api.ErrRange},
+		{api.Pax, head.Raw{Kind: '0'}, long, "", "data", "", api.ErrRange},
+		{api.Pax, head.Raw{Kind: '0'}, "a", long, "data", "", api.ErrRange},
+		{api.Pax, head.Raw{Kind: '0', Size: -1}, "a", "", "data", "", api.ErrRange},
+		{api.Pax, head.Raw{}, "a", "", "data", "", api.ErrArg},
+		{5, head.Raw{Kind: '0'}, "a", "", "data", "", api.ErrArg},
+	} {
+		got, err := member.Blocks(c.dialect, c.r, c.name, c.link, c.data)
+		if got != c.want || api.Tell(err) != c.err {
+			t.Errorf("Blocks(%d, %+v, %q, %q, %q) = %q, %v, want %q, %v", c.dialect, c.r, c.name, c.link, c.data, got, err, c.want, c.err)
+		}
+	}
+}
+
 func Example() {
 	e := api.Entry{Name: "a", Kind: api.Dir, Mode: 0o755}
 	s, err := member.Write(api.Ustar, e)
